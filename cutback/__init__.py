@@ -1,0 +1,1 @@
+"""Cutback: what is still to be done, taken up, kept, and gone on with."""

@@ -1,0 +1,114 @@
+"""What ways and by_putting refuse."""
+
+import unittest
+
+from cutback.errors import BadFuel, BadPiece, PieceError
+from cutback.putting import by_putting, ways
+from tests.helpers import (
+    HOLES, TOP, about, call, doubled, fun, in_time, kept, name, nested, num, pick, plus, shut, take, too_large, wide,
+    wrong_things,
+)
+
+BOTH = (ways, by_putting)
+MOST = 10 ** 6
+GOOD_FUEL = (0, 1, 2, 10000, MOST - 1, MOST)
+BAD_FUEL = [
+    -1, -2, -MOST, MOST + 1, MOST + 2, 10 ** 30, True, False, None, "", "1", b"1", 1.0, 0.0, 2.5, float("inf"),
+    float("nan"), 1j, (), (1,), [], [1], {}, {1}, {1: 1}, object(), int, num(1), doubled(num(1), 80),
+    nested([], lambda part: [part, part], 80),
+]
+OPEN = [
+    name("x"), about(name("x")), fun(1, "x", name("y")), take(1, "x", name("y")), plus(1, num(1), name("x")),
+    plus(1, name("x"), num(1)), call(1, fun(1, "x", name("x")), name("x")), pick(1, num(0), num(1), name("a")),
+    pick(1, num(1), name("a"), num(1)), call(1, name("f"), num(1)), nested(name("y"), about, 29),
+    nested(name("y"), HOLES["fun"], 29), fun(1, "x", plus(1, name("x"), name("xx"))),
+]
+
+
+class Refusals(unittest.TestCase):
+    def bad_piece(self, thing, fuel):
+        for function in BOTH:
+            with self.assertRaises(BadPiece) as caught:
+                function(thing, fuel)
+            self.assertIs(type(caught.exception), BadPiece)
+            self.assertIsInstance(caught.exception, PieceError)
+            self.assertIsInstance(caught.exception, ValueError)
+            self.assertNotIsInstance(caught.exception, BadFuel)
+
+    def bad_fuel(self, piece, fuel):
+        for function in BOTH:
+            with self.assertRaises(BadFuel) as caught:
+                function(piece, fuel)
+            self.assertIs(type(caught.exception), BadFuel)
+            self.assertIsInstance(caught.exception, PieceError)
+            self.assertIsInstance(caught.exception, ValueError)
+            self.assertNotIsInstance(caught.exception, BadPiece)
+
+    def taken(self, piece, fuel):
+        for function in BOTH:
+            function(piece, fuel)
+
+    def test_wrong_things(self):
+        for thing in wrong_things():
+            self.bad_piece(thing, 10)
+
+    def test_too_large_things(self):
+        with in_time():
+            for thing in too_large():
+                self.bad_piece(thing, 10)
+
+    def test_pieces_that_are_not_closed(self):
+        for piece in OPEN:
+            self.bad_piece(piece, 10)
+
+    def test_values(self):
+        for thing in (shut(1, "x", name("x")), kept(1), about(kept(1)), call(1, shut(1, "x", num(1)), num(1))):
+            self.bad_piece(thing, 10)
+
+    def test_bad_fuel(self):
+        with in_time():
+            for fuel in BAD_FUEL:
+                for piece in (num(1), plus(1, num(1), num(1)), take(1, "k", name("k")), fun(1, "x", name("x"))):
+                    self.bad_fuel(piece, fuel)
+
+    def test_good_fuel(self):
+        for fuel in GOOD_FUEL:
+            self.taken(num(1), fuel)
+            self.taken(plus(1, num(1), num(1)), fuel)
+
+    def test_a_bad_piece_is_told_ahead_of_bad_fuel(self):
+        with in_time():
+            for fuel in BAD_FUEL:
+                for thing in (None, 1, True, num(True), ["num", 1], wide(301), doubled(num(1), 80), num(TOP + 1)):
+                    self.bad_piece(thing, fuel)
+                for piece in OPEN:
+                    self.bad_piece(piece, fuel)
+
+    def test_the_limits(self):
+        for n in (TOP, -TOP):
+            self.taken(num(n), 1)
+        for n in (TOP + 1, -TOP - 1):
+            self.bad_piece(num(n), 1)
+        forms = [
+            lambda at: fun(at, "x", num(1)), lambda at: call(at, num(1), num(1)), lambda at: plus(at, num(1), num(1)),
+            lambda at: pick(at, num(1), num(1), num(1)), lambda at: take(at, "x", num(1)),
+        ]
+        for form in forms:
+            for at in (0, 9999):
+                self.taken(form(at), 1)
+            for at in (-1, 10000, True, False):
+                self.bad_piece(form(at), 1)
+        for x in ("a", "z", "abcdefgh"):
+            self.taken(fun(1, x, name(x)), 1)
+            self.taken(take(1, x, name(x)), 1)
+        for x in ("", "abcdefghi"):
+            self.bad_piece(fun(1, x, num(1)), 1)
+            self.bad_piece(take(1, x, num(1)), 1)
+        self.taken(wide(300), 1)
+        self.bad_piece(wide(301), 1)
+        self.taken(nested(num(1), about, 29), 1)
+        self.bad_piece(nested(num(1), about, 30), 1)
+
+
+if __name__ == "__main__":
+    unittest.main()
