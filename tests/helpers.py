@@ -2,6 +2,7 @@
 
 import contextlib
 import faulthandler
+import sys
 
 TOP = 10 ** 12 - 1
 
@@ -106,7 +107,7 @@ def in_time(seconds=60):
     A watchdog of its own is needed: a hash or a comparison that takes forever
     does not let a signal through.
     """
-    faulthandler.dump_traceback_later(seconds, exit=True)
+    faulthandler.dump_traceback_later(seconds, exit=True, file=sys.__stderr__)
     try:
         yield
     finally:
