@@ -85,18 +85,25 @@ def wide(knots):
 
 
 def same(one, other):
-    """Whether two are equal, and of the same kinds; they may be nested very deep."""
+    """Whether two are equal, and of the same kinds.
+
+    They may be nested very deep, and a part may stand in so many places that
+    nobody could go through all of them: each pair of parts is looked at once.
+    """
     waiting = [(one, other)]
+    seen = set()
     while waiting:
         left, right = waiting.pop()
         if type(left) is not type(right):
             return False
-        if isinstance(left, tuple):
+        if not isinstance(left, tuple):
+            if left != right:
+                return False
+        elif (id(left), id(right)) not in seen:
+            seen.add((id(left), id(right)))
             if len(left) != len(right):
                 return False
             waiting.extend(zip(left, right))
-        elif left != right:
-            return False
     return True
 
 

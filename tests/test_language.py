@@ -6,7 +6,7 @@ import pathlib
 import unittest
 
 import cutback
-from cutback import errors, pieces, putting
+from cutback import errors, machine, pieces, putting, running, translating
 
 FOLDER = pathlib.Path(cutback.__file__).parent
 FILES = sorted(FOLDER.glob("*.py"))
@@ -17,6 +17,9 @@ INTERFACE = {
         "put_in": ["piece", "name", "value"], "stepped": ["piece"], "ways": ["piece", "fuel"],
         "by_putting": ["piece", "fuel"],
     },
+    machine: {"moves": ["piece", "fuel"], "unloaded": ["state"], "by_machine": ["piece", "fuel"]},
+    translating: {"plain": ["piece"]},
+    running: {"run_plain": ["term", "fuel"], "by_plain": ["piece", "fuel"]},
 }
 
 

@@ -1,15 +1,18 @@
-"""What ways and by_putting refuse."""
+"""What is refused of pieces and fuel by all that takes one of them, or both."""
 
 import unittest
 
 from cutback.errors import BadFuel, BadPiece, PieceError
+from cutback.machine import by_machine, moves
 from cutback.putting import by_putting, ways
+from cutback.running import by_plain, run_plain
+from cutback.translating import plain
 from tests.helpers import (
     HOLES, TOP, about, call, doubled, fun, in_time, kept, name, nested, num, pick, plus, shut, take, too_large, wide,
     wrong_things,
 )
 
-BOTH = (ways, by_putting)
+BOTH = (ways, by_putting, moves, by_machine, by_plain)
 MOST = 10 ** 6
 GOOD_FUEL = (0, 1, 2, 10000, MOST - 1, MOST)
 BAD_FUEL = [
@@ -17,6 +20,7 @@ BAD_FUEL = [
     float("nan"), 1j, (), (1,), [], [1], {}, {1}, {1: 1}, object(), int, num(1), doubled(num(1), 80),
     nested([], lambda part: [part, part], 80),
 ]
+CALL_OF_X = ("call", 1, name("x"), name("x"), ("halt",), ("end",))
 OPEN = [
     name("x"), about(name("x")), fun(1, "x", name("y")), take(1, "x", name("y")), plus(1, num(1), name("x")),
     plus(1, name("x"), num(1)), call(1, fun(1, "x", name("x")), name("x")), pick(1, num(0), num(1), name("a")),
@@ -26,27 +30,25 @@ OPEN = [
 
 
 class Refusals(unittest.TestCase):
+    def refused(self, error, function, *things):
+        with self.assertRaises(PieceError) as caught:
+            function(*things)
+        self.assertIs(type(caught.exception), error)
+        self.assertIsInstance(caught.exception, ValueError)
+
     def bad_piece(self, thing, fuel):
         for function in BOTH:
-            with self.assertRaises(BadPiece) as caught:
-                function(thing, fuel)
-            self.assertIs(type(caught.exception), BadPiece)
-            self.assertIsInstance(caught.exception, PieceError)
-            self.assertIsInstance(caught.exception, ValueError)
-            self.assertNotIsInstance(caught.exception, BadFuel)
+            self.refused(BadPiece, function, thing, fuel)
+        self.refused(BadPiece, plain, thing)
 
     def bad_fuel(self, piece, fuel):
         for function in BOTH:
-            with self.assertRaises(BadFuel) as caught:
-                function(piece, fuel)
-            self.assertIs(type(caught.exception), BadFuel)
-            self.assertIsInstance(caught.exception, PieceError)
-            self.assertIsInstance(caught.exception, ValueError)
-            self.assertNotIsInstance(caught.exception, BadPiece)
+            self.refused(BadFuel, function, piece, fuel)
 
     def taken(self, piece, fuel):
         for function in BOTH:
             function(piece, fuel)
+        plain(piece)
 
     def test_wrong_things(self):
         for thing in wrong_things():
@@ -75,6 +77,16 @@ class Refusals(unittest.TestCase):
         for fuel in GOOD_FUEL:
             self.taken(num(1), fuel)
             self.taken(plus(1, num(1), num(1)), fuel)
+
+    def test_the_fuel_of_a_plain_term(self):
+        halted = ("pass", ("halt",), ("num", 1), ("end",))
+        endless = ("let", "x", ("code", "kept", 1, "x", "k", "g", CALL_OF_X), CALL_OF_X)
+        for term in (halted, ("ask", 1, ("end",), halted), endless, plain(plus(1, num(1), num(1)))):
+            with in_time():
+                for fuel in BAD_FUEL:
+                    self.refused(BadFuel, run_plain, term, fuel)
+        for fuel in GOOD_FUEL:
+            self.assertEqual(run_plain(halted, fuel), ("number", 1))
 
     def test_a_bad_piece_is_told_ahead_of_bad_fuel(self):
         with in_time():

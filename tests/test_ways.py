@@ -6,101 +6,12 @@ import unittest
 from cutback.pieces import is_closed
 from cutback.putting import by_putting, stepped, ways
 from tests.helpers import (
-    ONES, about, call, fun, in_time, kept, name, nested, num, pick, plus, same, shut, take, wide,
+    ONES, about, call, fun, in_time, kept, nested, num, pick, plus, same, shut, take, wide,
 )
 from tests.oracle import history
+from tests.runs import ENDLESS, K, N, RUNS, S, X, counted
 
-K = name("k")
-N = name("n")
-S = name("s")
-X = name("x")
 MOST = 10 ** 6
-
-
-def doubling(times):
-    """A call that doubles 10 ** 12 - 1 so many times: of functions of functions."""
-    piece = num(10 ** 12 - 1)
-    for _ in range(times):
-        piece = call(1, fun(2, "x", plus(3, X, X)), piece)
-    return piece
-
-
-# Counts n down to nought, with one more left to add each time: 6 steps for
-# each, and 7 others.
-COUNTER = fun(1, "s", fun(2, "n", pick(3, N, num(0), plus(4, num(1), call(5, call(6, S, S), plus(7, N, num(-1)))))))
-
-
-def counted(n):
-    return call(8, fun(9, "s", call(10, call(11, S, S), num(n))), COUNTER)
-
-
-ENDLESS = call(1, fun(2, "x", call(3, X, X)), fun(4, "x", call(5, X, X)))
-
-# A piece, what it comes to, and after how many steps.
-RUNS = {
-    "a number": (num(5), ("number", 5), 0),
-    "a function": (fun(7, "x", X), ("function", 7), 1),
-    "a sum": (plus(1, num(2), num(3)), ("number", 5), 1),
-    "a sum of sums": (plus(1, plus(2, num(1), num(2)), plus(3, num(3), num(4))), ("number", 10), 3),
-    "a pick of nought": (pick(1, num(0), num(2), num(3)), ("number", 2), 1),
-    "a pick of another": (pick(1, num(5), num(2), num(3)), ("number", 3), 1),
-    "the other of a pick is not done": (pick(1, num(0), num(2), call(2, num(1), num(1))), ("number", 2), 1),
-    "a call": (call(1, fun(2, "x", plus(3, X, X)), num(4)), ("number", 8), 3),
-    "a function from a call": (call(1, fun(2, "x", fun(3, "y", X)), num(4)), ("function", 3), 3),
-    "a round": (about(num(3)), ("number", 3), 1),
-    "rounds": (about(about(about(num(3)))), ("number", 3), 3),
-    "a kept": (about(take(4, "k", K)), ("kept", 4), 2),
-    "a kept with frames": (about(plus(1, num(2), take(4, "k", K))), ("kept", 4), 2),
-    "a call of a number": (call(3, num(1), num(2)), ("stuck", 3), 0),
-    "a call of a number behind steps": (call(3, plus(1, num(1), num(1)), fun(2, "x", X)), ("stuck", 3), 2),
-    "a plus of a function": (plus(6, fun(1, "x", X), num(1)), ("stuck", 6), 1),
-    "a plus with a function": (plus(6, num(1), fun(1, "x", X)), ("stuck", 6), 1),
-    "a plus of a kept": (plus(6, about(take(1, "k", K)), num(1)), ("stuck", 6), 2),
-    "a pick of a function": (pick(8, fun(1, "x", X), num(1), num(2)), ("stuck", 8), 1),
-    "a pick of a kept": (pick(8, about(take(1, "k", K)), num(1), num(2)), ("stuck", 8), 2),
-    "a take without a round": (take(9, "k", num(1)), ("stuck", 9), 0),
-    "a take behind a round": (plus(1, about(num(1)), take(9, "k", num(1))), ("stuck", 9), 1),
-    "a kept called never": (about(plus(1, num(10), take(2, "k", num(5)))), ("number", 5), 2),
-    "a kept called once": (about(plus(1, num(10), take(2, "k", call(3, K, num(5))))), ("number", 15), 5),
-    "a kept called twice": (
-        about(plus(1, num(10), take(2, "k", call(3, K, call(4, K, num(5)))))), ("number", 25), 8),
-    "a kept called in both parts": (
-        about(plus(1, num(10), take(2, "k", plus(3, call(4, K, num(1)), call(5, K, num(2)))))), ("number", 23), 9),
-    "a kept called behind the round": (
-        call(1, about(plus(2, num(10), take(3, "k", K))), num(5)), ("number", 15), 5),
-    "a kept handed on and called twice behind the round": (
-        call(1, fun(2, "k", plus(3, call(4, K, num(1)), call(5, K, num(2)))), about(plus(6, take(7, "j", name("j")),
-                                                                                         num(100)))),
-        ("number", 203), 11),
-    "what is still to be done is done later": (
-        about(pick(1, take(2, "k", plus(3, call(4, K, num(0)), call(5, K, num(1)))), num(10), num(20))),
-        ("number", 30), 9),
-    "a round within a round": (
-        about(plus(1, num(1), about(plus(2, num(10), take(3, "k", call(4, K, call(5, K, num(100)))))))),
-        ("number", 121), 10),
-    "a take of a round, then one of the outer round": (
-        about(plus(1, num(1), about(plus(2, num(10), take(3, "k", num(5)))))), ("number", 6), 4),
-    "a take behind an inner round": (
-        about(plus(1, about(num(10)), take(2, "k", call(3, K, num(1))))), ("number", 11), 6),
-    "a take within what a kept left": (
-        about(plus(1, take(2, "k", call(3, K, num(1))), take(4, "j", call(5, name("j"), num(2))))), ("number", 3), 8),
-    "a kept is called with a function": (
-        about(call(1, take(2, "k", call(3, K, fun(4, "x", plus(5, X, X)))), num(21))), ("number", 42), 7),
-    "a kept in itself": (about(call(1, take(2, "k", call(3, K, K)), num(3))), ("stuck", 1), 3),
-    "a name bound again": (
-        call(1, fun(2, "x", call(3, fun(4, "x", plus(5, X, num(1))), plus(6, X, X))), num(20)), ("number", 41), 6),
-    "a name bound again, and a function that has the first": (
-        call(1, call(2, call(3, fun(4, "x", fun(5, "f", fun(6, "x", plus(7, call(8, name("f"), X), X)))), num(1)),
-                     call(9, fun(10, "x", fun(11, "y", plus(12, X, name("y")))), num(100))), num(1000)),
-        ("number", 2100), 12),
-    "a name bound again by a take": (
-        call(1, fun(2, "k", about(plus(3, K, take(4, "k", call(5, K, num(1)))))), num(50)), ("number", 51), 7),
-    "a take binds what a function had": (
-        call(1, fun(2, "k", about(take(3, "k", K))), num(50)), ("kept", 3), 4),
-    "sums above 10 ** 12": (doubling(10), ("number", (10 ** 12 - 1) * 1024), 30),
-    "counting": (counted(3), ("number", 3), 25),
-    "the marks may be the same": (call(1, fun(1, "x", plus(1, X, take(1, "k", K))), num(1)), ("stuck", 1), 2),
-}
 
 
 class ByPutting(unittest.TestCase):
